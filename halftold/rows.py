@@ -1,10 +1,15 @@
-"""What a row is, when it is closed, what fills it, and the partners and depths of a closed one."""
+"""What a row and a number are, when a row is closed, what fills it, and the partners and depths of a closed one."""
 
 from halftold.errors import BadRow, NoFilling
 
 
 def is_row(value):
     return isinstance(value, str) and all([sign in "()?" for sign in value])
+
+
+def is_number(value):
+    # Python counts True and False among the whole numbers, the document does not.
+    return isinstance(value, int) and not isinstance(value, bool)
 
 
 def check_row(row):

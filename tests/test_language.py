@@ -31,6 +31,19 @@ WORDS = re.compile(r"\b(type|typing|typing_extensions|enum|Enum|IntEnum|StrEnum|
                    r"|dataclass|overload|contextmanager")
 
 
+WALKED = ("zip", "enumerate", "reversed", "range", "items", "keys", "values")
+WALKERS = ("list", "tuple", "dict", "sorted", "sum", "any", "all", "enumerate", "zip", "join")
+KEYWORDS = {"sorted": ("key", "reverse"), "min": ("key", "default"), "max": ("key", "default"), "sum": ("start",),
+            "enumerate": ("start",), "zip": ("strict",)}
+
+
+def called(node):
+    """The name that a call calls, of a function or a method."""
+    if not isinstance(node, ast.Call):
+        return None
+    return node.func.id if isinstance(node.func, ast.Name) else node.func.attr
+
+
 class LanguageTest(unittest.TestCase):
     def setUp(self):
         self.files = sorted(PACKAGE.glob("*.py"))
@@ -89,6 +102,50 @@ class LanguageTest(unittest.TestCase):
             if isinstance(node, ast.ListComp):
                 self.assertEqual(len(node.generators), 1, where)
                 self.assertLessEqual(len(node.generators[0].ifs), 1, where)
+
+    def test_l6_nothing_stands_by_itself_but_a_call(self):
+        for path, tree in self.trees.items():
+            self.assertIsInstance(ast.get_docstring(tree), str, path.name)
+            for node in ast.walk(tree):
+                if isinstance(node, ast.Expr) and node != tree.body[0]:
+                    self.assertIsInstance(node.value, ast.Call, f"{path.name}:{node.lineno}")
+
+    def test_l16_no_two_files_draw_from_one_another(self):
+        drawn = {path.stem: {node.module.split(".")[1] for node in tree.body if isinstance(node, ast.ImportFrom)}
+                 for path, tree in self.trees.items()}
+        while drawn:
+            free = [name for name in drawn if not drawn[name] & set(drawn)]
+            self.assertNotEqual(free, [], drawn)
+            for name in free:
+                del drawn[name]
+
+    def test_l22_keywords_and_kinds(self):
+        for where, node in self.nodes(ast.Call):
+            for given in node.keywords:
+                self.assertIn(given.arg, KEYWORDS.get(called(node), ()), where)
+            if called(node) == "isinstance":
+                kinds = node.args[1].elts if isinstance(node.args[1], ast.Tuple) else [node.args[1]]
+                for kind in kinds:
+                    self.assertIn(kind.id, ("int", "str", "bool", "list", "tuple", "dict"), where)
+
+    def test_l23_walked_at_once(self):
+        fit = set()
+        for where, node in self.nodes(ast.For, ast.comprehension, ast.Call):
+            if not isinstance(node, ast.Call):
+                fit.add(node.iter)
+            elif called(node) in WALKERS or (called(node) in ("min", "max") and len(node.args) == 1):
+                fit.update(node.args[:1])
+        for where, node in self.nodes(ast.Call):
+            if called(node) in WALKED:
+                self.assertIn(node, fit, where)
+
+    def test_l13_l19_l24_l27_what_is_not_needed_here(self):
+        for where, node in self.nodes(ast.Pow, ast.Try, ast.Lambda, ast.JoinedStr):
+            self.fail(where)
+        for where, node in self.nodes(ast.Name):
+            self.assertNotIn(node.id, ("set", "frozenset"), where)
+        for where, node in self.nodes(ast.Raise):
+            self.assertIsInstance(node.exc, ast.Call, where)
 
     def test_l8_l12_l15_l17_names(self):
         for where, node in self.nodes(ast.Name, ast.arg, ast.FunctionDef, ast.ClassDef):
